@@ -30,6 +30,8 @@ func (p Plan) right() bool {
 // A plan that is not right has no workers, so that whoever is there has a processor to divide by.
 func (p Plan) hasWorker(w int64) bool { return p.right() && within(w, 0, p.Workers-1) }
 
+func (p Plan) hasProc(i int64) bool { return p.right() && within(i, 0, p.Procs-1) }
+
 func (p Plan) home(w int64) int64 { return w % p.Procs }
 
 func isTime(time int64) bool { return within(time, 0, MaxTime) }
