@@ -32,6 +32,9 @@ func (p Plan) hasWorker(w int64) bool { return p.right() && within(w, 0, p.Worke
 
 func (p Plan) hasProc(i int64) bool { return p.right() && within(i, 0, p.Procs-1) }
 
+// Whether there is such a timer, only a memory can tell.
+func (p Plan) mayHaveTimer(t int64) bool { return p.right() && within(t, 0, p.Timers-1) }
+
 func (p Plan) home(w int64) int64 { return w % p.Procs }
 
 func isTime(time int64) bool { return within(time, 0, MaxTime) }
