@@ -278,72 +278,94 @@ func TestHandOkOfNoSuchCode(t *testing.T) {
 	}
 }
 
-// A Call with one number at a limit of its own, or beside it, at each At: also at rest it is right or not.
+// nearCalls are the right ones with one number at a limit of its own, beside it, or far outside.
+func nearCalls(p impl.Plan) []callCase {
+	list := []callCase{}
+	for _, base := range rightCalls(p) {
+		for i, f := range callFields {
+			most := mostAs(p, callTable[base.Code][i])
+			for _, n := range []int64{math.MinInt64, -1 << 32, -2, -1, 0, most, most + 1, most + 2, timersLimit, timeLimit + 1, 1 << 32, math.MaxInt64} {
+				c := base
+				*f(&c) = n
+				list = append(list, callCase{c, n >= 0 && n <= most && !(c.Code == 5 && c.A == c.B)})
+			}
+		}
+	}
+	return list
+}
+
+// At each At, also at rest, a Call is right or not.
 func TestHandOkCallWithOneNumberWrong(t *testing.T) {
 	for _, p := range handPlans {
-		for _, base := range rightCalls(p) {
-			for i, f := range callFields {
-				most := mostAs(p, callTable[base.Code][i])
-				for _, n := range []int64{math.MinInt64, -1 << 32, -2, -1, 0, most, most + 1, most + 2, timersLimit, timeLimit + 1, 1 << 32, math.MaxInt64} {
-					c := base
-					*f(&c) = n
-					want := n >= 0 && n <= most && !(c.Code == 5 && c.A == c.B)
-					for _, h := range handsWith(p, c) {
-						checkHandOk(t, p, h, want)
-					}
-				}
+		for _, c := range nearCalls(p) {
+			for _, h := range handsWith(p, c.call) {
+				checkHandOk(t, p, h, c.want)
 			}
 		}
 	}
 }
 
-// What is named by number, in a plan of 2 processors, 3 workers and 4 timers.
+// writtenPlan is what writtenCalls are written for.
+var writtenPlan = impl.Plan{Procs: 2, Workers: 3, Timers: 4}
+
+// A callCase is a call, and whether it is right.
+type callCase struct {
+	call impl.Call
+	want bool
+}
+
+// writtenCalls have each limit by number.
+var writtenCalls = []callCase{
+	{impl.Call{Code: impl.OpNew}, true}, {impl.Call{Code: impl.OpNew, A: 1, B: timeLimit, C: timeLimit}, true}, {impl.Call{Code: impl.OpNew, A: 2}, false}, {impl.Call{Code: impl.OpNew, A: -1}, false},
+	{impl.Call{Code: impl.OpNew, B: timeLimit + 1}, false}, {impl.Call{Code: impl.OpNew, B: -1}, false}, {impl.Call{Code: impl.OpNew, C: timeLimit + 1}, false}, {impl.Call{Code: impl.OpNew, C: -1}, false},
+	{impl.Call{Code: impl.OpStop}, true}, {impl.Call{Code: impl.OpStop, A: 3}, true}, {impl.Call{Code: impl.OpStop, A: 4}, false}, {impl.Call{Code: impl.OpStop, A: -1}, false},
+	{impl.Call{Code: impl.OpStop, A: 3, B: 1}, false}, {impl.Call{Code: impl.OpStop, A: 3, C: 1}, false}, {impl.Call{Code: impl.OpStop, A: 3, B: -1}, false}, {impl.Call{Code: impl.OpStop, A: 3, C: -1}, false},
+	{impl.Call{Code: impl.OpReset}, true}, {impl.Call{Code: impl.OpReset, A: 3, B: timeLimit}, true}, {impl.Call{Code: impl.OpReset, A: 4}, false}, {impl.Call{Code: impl.OpReset, A: -1}, false},
+	{impl.Call{Code: impl.OpReset, B: timeLimit + 1}, false}, {impl.Call{Code: impl.OpReset, B: -1}, false}, {impl.Call{Code: impl.OpReset, C: 1}, false}, {impl.Call{Code: impl.OpReset, C: -1}, false},
+	{impl.Call{Code: impl.OpCheck}, true}, {impl.Call{Code: impl.OpCheck, A: 1}, true}, {impl.Call{Code: impl.OpCheck, A: 2}, false}, {impl.Call{Code: impl.OpCheck, A: -1}, false},
+	{impl.Call{Code: impl.OpCheck, B: 1}, false}, {impl.Call{Code: impl.OpCheck, C: 1}, false}, {impl.Call{Code: impl.OpCheck, B: -1}, false}, {impl.Call{Code: impl.OpCheck, C: -1}, false},
+	{impl.Call{Code: impl.OpMove, B: 1}, true}, {impl.Call{Code: impl.OpMove, A: 1}, true}, {impl.Call{Code: impl.OpMove}, false}, {impl.Call{Code: impl.OpMove, A: 1, B: 1}, false},
+	{impl.Call{Code: impl.OpMove, A: 2, B: 1}, false}, {impl.Call{Code: impl.OpMove, A: -1, B: 1}, false}, {impl.Call{Code: impl.OpMove, A: 1, B: 2}, false}, {impl.Call{Code: impl.OpMove, A: 1, B: -1}, false},
+	{impl.Call{Code: impl.OpMove, A: 1, C: 1}, false}, {impl.Call{Code: impl.OpMove, A: 1, C: -1}, false},
+	{impl.Call{Code: impl.OpRecv}, true}, {impl.Call{Code: impl.OpRecv, A: 3}, true}, {impl.Call{Code: impl.OpRecv, A: 4}, false}, {impl.Call{Code: impl.OpRecv, A: -1}, false},
+	{impl.Call{Code: impl.OpRecv, B: 1}, false}, {impl.Call{Code: impl.OpRecv, C: 1}, false}, {impl.Call{Code: impl.OpRecv, B: -1}, false}, {impl.Call{Code: impl.OpRecv, C: -1}, false},
+	{impl.Call{Code: 7}, false}, {impl.Call{Code: 7, A: 1, B: 1, C: 1}, false}, {impl.Call{Code: -1}, false}, {impl.Call{A: 1}, false}, {impl.Call{B: 1}, false}, {impl.Call{C: 1}, false},
+}
+
 func TestHandOkCallsWrittenOut(t *testing.T) {
-	p := impl.Plan{Procs: 2, Workers: 3, Timers: 4}
-	const M = 1000000000
-	for _, c := range []struct {
-		call impl.Call
-		want bool
-	}{
-		{impl.Call{Code: impl.OpNew}, true}, {impl.Call{Code: impl.OpNew, A: 1, B: M, C: M}, true}, {impl.Call{Code: impl.OpNew, A: 2}, false}, {impl.Call{Code: impl.OpNew, A: -1}, false},
-		{impl.Call{Code: impl.OpNew, B: M + 1}, false}, {impl.Call{Code: impl.OpNew, B: -1}, false}, {impl.Call{Code: impl.OpNew, C: M + 1}, false}, {impl.Call{Code: impl.OpNew, C: -1}, false},
-		{impl.Call{Code: impl.OpStop}, true}, {impl.Call{Code: impl.OpStop, A: 3}, true}, {impl.Call{Code: impl.OpStop, A: 4}, false}, {impl.Call{Code: impl.OpStop, A: -1}, false},
-		{impl.Call{Code: impl.OpStop, A: 3, B: 1}, false}, {impl.Call{Code: impl.OpStop, A: 3, C: 1}, false}, {impl.Call{Code: impl.OpStop, A: 3, B: -1}, false}, {impl.Call{Code: impl.OpStop, A: 3, C: -1}, false},
-		{impl.Call{Code: impl.OpReset}, true}, {impl.Call{Code: impl.OpReset, A: 3, B: M}, true}, {impl.Call{Code: impl.OpReset, A: 4}, false}, {impl.Call{Code: impl.OpReset, A: -1}, false},
-		{impl.Call{Code: impl.OpReset, B: M + 1}, false}, {impl.Call{Code: impl.OpReset, B: -1}, false}, {impl.Call{Code: impl.OpReset, C: 1}, false}, {impl.Call{Code: impl.OpReset, C: -1}, false},
-		{impl.Call{Code: impl.OpCheck}, true}, {impl.Call{Code: impl.OpCheck, A: 1}, true}, {impl.Call{Code: impl.OpCheck, A: 2}, false}, {impl.Call{Code: impl.OpCheck, A: -1}, false},
-		{impl.Call{Code: impl.OpCheck, B: 1}, false}, {impl.Call{Code: impl.OpCheck, C: 1}, false}, {impl.Call{Code: impl.OpCheck, B: -1}, false}, {impl.Call{Code: impl.OpCheck, C: -1}, false},
-		{impl.Call{Code: impl.OpMove, B: 1}, true}, {impl.Call{Code: impl.OpMove, A: 1}, true}, {impl.Call{Code: impl.OpMove}, false}, {impl.Call{Code: impl.OpMove, A: 1, B: 1}, false},
-		{impl.Call{Code: impl.OpMove, A: 2, B: 1}, false}, {impl.Call{Code: impl.OpMove, A: -1, B: 1}, false}, {impl.Call{Code: impl.OpMove, A: 1, B: 2}, false}, {impl.Call{Code: impl.OpMove, A: 1, B: -1}, false},
-		{impl.Call{Code: impl.OpMove, A: 1, C: 1}, false}, {impl.Call{Code: impl.OpMove, A: 1, C: -1}, false},
-		{impl.Call{Code: impl.OpRecv}, true}, {impl.Call{Code: impl.OpRecv, A: 3}, true}, {impl.Call{Code: impl.OpRecv, A: 4}, false}, {impl.Call{Code: impl.OpRecv, A: -1}, false},
-		{impl.Call{Code: impl.OpRecv, B: 1}, false}, {impl.Call{Code: impl.OpRecv, C: 1}, false}, {impl.Call{Code: impl.OpRecv, B: -1}, false}, {impl.Call{Code: impl.OpRecv, C: -1}, false},
-		{impl.Call{Code: 7}, false}, {impl.Call{Code: 7, A: 1, B: 1, C: 1}, false}, {impl.Call{Code: -1}, false}, {impl.Call{A: 1}, false}, {impl.Call{B: 1}, false}, {impl.Call{C: 1}, false},
-	} {
+	for _, c := range writtenCalls {
 		for at := range int64(atLimit + 1) {
-			checkHandOk(t, p, impl.Hand{At: at, Call: c.call, Timer: -1}, c.want)
+			checkHandOk(t, writtenPlan, impl.Hand{At: at, Call: c.call, Timer: -1}, c.want)
 		}
 	}
 }
 
-// All mixtures of small numbers, at rest and elsewhere, in plans of each number of processors, and of timers about it.
+// smallCalls are all mixtures of small numbers.
+func smallCalls() []impl.Call {
+	list := []impl.Call{}
+	for code := int64(-1); code <= codeLimit+2; code++ {
+		for a := int64(-1); a <= procsLimit+1; a++ {
+			for b := int64(-1); b <= procsLimit+1; b++ {
+				for _, c := range []int64{-1, 0, 1, timeLimit} {
+					list = append(list, impl.Call{Code: code, A: a, B: b, C: c})
+				}
+			}
+		}
+	}
+	return list
+}
+
+// At rest and elsewhere, in plans of each number of processors, and of timers about it.
 func TestHandOkCallsAsTold(t *testing.T) {
 	right := map[int64]int{}
 	for procs := int64(1); procs <= procsLimit; procs++ {
 		p := impl.Plan{Procs: procs, Workers: 8, Timers: 4}
-		for code := int64(-1); code <= codeLimit+2; code++ {
-			for a := int64(-1); a <= procsLimit+1; a++ {
-				for b := int64(-1); b <= procsLimit+1; b++ {
-					for _, c := range []int64{-1, 0, 1, timeLimit} {
-						call := impl.Call{Code: code, A: a, B: b, C: c}
-						want := expectedCallRight(p, call)
-						checkHandOk(t, p, impl.Hand{At: impl.AtTake, Call: call}, want)
-						checkHandOk(t, p, impl.Hand{Call: call}, want || call == impl.Call{})
-						if want {
-							right[code]++
-						}
-					}
-				}
+		for _, call := range smallCalls() {
+			want := expectedCallRight(p, call)
+			checkHandOk(t, p, impl.Hand{At: impl.AtTake, Call: call}, want)
+			checkHandOk(t, p, impl.Hand{Call: call}, want || call == impl.Call{})
+			if want {
+				right[call.Code]++
 			}
 		}
 	}
@@ -459,24 +481,40 @@ func checkHandAnswers(t *testing.T, p impl.Plan, h impl.Hand) {
 var wildPlans = []impl.Plan{{}, {Procs: math.MaxInt64, Workers: math.MaxInt64, Timers: math.MaxInt64}, {Procs: math.MinInt64, Workers: math.MinInt64, Timers: math.MinInt64},
 	{Procs: 1, Workers: 1, Timers: math.MinInt64}, {Procs: math.MinInt64, Workers: 1, Timers: 1}, {Procs: 1, Workers: 0, Timers: 1}, {Procs: 2, Workers: 3, Timers: timersLimit + 1}}
 
+// wildCalls are of each Code, and of none, with numbers at all limits and far outside.
+func wildCalls() []impl.Call {
+	list := []impl.Call{{}, {Code: 1, B: 5}, {Code: 5, B: 1}, {Code: 9, A: 9}}
+	for _, n := range manyNumbers() {
+		for code := int64(-1); code <= codeLimit+1; code++ {
+			list = append(list, impl.Call{Code: code, A: n}, impl.Call{Code: code, A: n, B: n}, impl.Call{Code: code, B: n}, impl.Call{Code: code, A: n, B: n, C: n}, impl.Call{Code: code, C: n}, impl.Call{Code: n, A: code})
+		}
+	}
+	return list
+}
+
+// wildHands have one number, or all, at all limits and far outside.
+func wildHands() []impl.Hand {
+	list := []impl.Hand{}
+	for _, n := range manyNumbers() {
+		for _, c := range []impl.Call{{}, {Code: 1, B: 5}, {Code: 5, B: 1}, {Code: 9, A: 9}} {
+			for _, f := range handFields {
+				h := impl.Hand{At: impl.AtLook, Call: c, Timer: -1}
+				*f.at(&h) = n
+				list = append(list, h)
+			}
+			list = append(list, impl.Hand{At: n, Call: c, Timer: n, When: n, Had: true, Count: n, Begin: n, Reply: n, Out: n})
+		}
+	}
+	return list
+}
+
 // Promise 19: these functions answer at every argument, and none panics; the arguments stay.
 func TestPromise19HandsAnswerEverywhere(t *testing.T) {
 	for _, p := range slices.Concat(wildPlans, handPlans) {
-		calls := []impl.Call{{}, {Code: 1, B: 5}, {Code: 5, B: 1}, {Code: 9, A: 9}}
-		for _, n := range manyNumbers() {
-			for code := int64(-1); code <= codeLimit+1; code++ {
-				calls = append(calls, impl.Call{Code: code, A: n}, impl.Call{Code: code, A: n, B: n}, impl.Call{Code: code, B: n}, impl.Call{Code: code, A: n, B: n, C: n}, impl.Call{Code: code, C: n}, impl.Call{Code: n, A: code})
-			}
-			for _, c := range calls[:4] {
-				for _, f := range handFields {
-					h := impl.Hand{At: impl.AtLook, Call: c, Timer: -1}
-					*f.at(&h) = n
-					checkHandAnswers(t, p, h)
-				}
-				checkHandAnswers(t, p, impl.Hand{At: n, Call: c, Timer: n, When: n, Had: true, Count: n, Begin: n, Reply: n, Out: n})
-			}
+		for _, h := range wildHands() {
+			checkHandAnswers(t, p, h)
 		}
-		for _, c := range calls {
+		for _, c := range wildCalls() {
 			for _, at := range []int64{math.MinInt64, -1, impl.AtRest, impl.AtAlloc, impl.AtTake, atLimit + 1, math.MaxInt64} {
 				checkHandAnswers(t, p, impl.Hand{At: at, Call: c})
 			}
