@@ -232,8 +232,13 @@ func busyHands(p impl.Plan) []impl.Hand {
 
 // brokenHands have one number that is out of range, or a Call that is not right, at rest and elsewhere.
 func brokenHands(p impl.Plan) []impl.Hand {
+	return brokenFrom(p, impl.NewHand(), impl.Hand{At: impl.AtGrab, Call: impl.Call{Code: impl.OpCheck}, Timer: -1})
+}
+
+// brokenFrom are these in all ways in which they are broken in one thing.
+func brokenFrom(p impl.Plan, bases ...impl.Hand) []impl.Hand {
 	list := []impl.Hand{}
-	for _, base := range []impl.Hand{impl.NewHand(), {At: impl.AtGrab, Call: impl.Call{Code: impl.OpCheck}, Timer: -1}} {
+	for _, base := range bases {
 		for _, f := range handFields {
 			for _, n := range []int64{math.MinInt64, f.least - 1, f.most(p) + 1, math.MaxInt64} {
 				h := base

@@ -17,15 +17,6 @@ func TestEvConstants(t *testing.T) {
 	}
 }
 
-// The document's own words; that the Timer is not below -1 is told by the hand.
-func expectedFit(p impl.Plan, m impl.Mem, w int64, h impl.Hand) bool {
-	switch {
-	case !expectedMemOk(p, m), !expectedHandOk(p, h), w < 0, w >= p.Workers:
-		return false
-	}
-	return h.Timer == -1 || int(h.Timer) < len(m.Timers)
-}
-
 // expectedHome is counted round the processors, one for each worker.
 func expectedHome(p impl.Plan, w int64) int64 {
 	home := int64(0)
@@ -98,64 +89,7 @@ func expectedPush(p impl.Plan, d impl.Done, home int64) (impl.Done, bool) {
 	return d, true
 }
 
-func sameDone(a impl.Done, b impl.Done) bool {
-	return sameMem(a.Mem, b.Mem) && a.Hand == b.Hand && a.Ev == b.Ev
-}
-
-// checkStep sees that a step is just this one, and that the memory stays.
-func checkStep(t *testing.T, p impl.Plan, m impl.Mem, w int64, h impl.Hand, want impl.Done) {
-	t.Helper()
-	given := clonedMem(m)
-	if got, is := impl.CreateStep(p, m, w, h); !is || !sameDone(got, want) {
-		t.Errorf("CreateStep(%v, %v, %d, %+v) is %+v, %v, not %+v", p, m, w, h, got, is, want)
-	}
-	if !sameMem(m, given) {
-		t.Errorf("%v came to be %v", given, m)
-	}
-}
-
-func checkRefused(t *testing.T, p impl.Plan, m impl.Mem, w int64, h impl.Hand) {
-	t.Helper()
-	if got, is := impl.CreateStep(p, m, w, h); is || !sameDone(got, impl.Done{}) {
-		t.Errorf("CreateStep(%v, %v, %d, %+v) is %+v, %v", p, m, w, h, got, is)
-	}
-}
-
-func checkFit(t *testing.T, p impl.Plan, m impl.Mem, w int64, h impl.Hand, want bool) {
-	t.Helper()
-	if got := impl.Fit(p, m, w, h); got != want {
-		t.Errorf("Fit(%v, %v, %d, %+v) is %v", p, m, w, h, got)
-	}
-}
-
-// checkCreateAnswers sees that both functions answer as told, always the same, and that the arguments stay, and what is behind them.
-func checkCreateAnswers(t *testing.T, p impl.Plan, m impl.Mem, w int64, h impl.Hand) {
-	t.Helper()
-	defer func() {
-		if e := recover(); e != nil {
-			t.Fatalf("panic at %v, %v, %d, %+v: %v", p, m, w, h, e)
-		}
-	}()
-	given, whole := sparedMem(m)
-	before := fullHeaps(whole)
-	givenPlan, givenWorker, givenHand := p, w, h
-	want, wantIs := expectedCreate(p, m, w, h)
-	wantFit := expectedFit(p, m, w, h)
-	for range 2 {
-		if got, is := impl.CreateStep(p, given, w, h); is != wantIs || !sameDone(got, want) {
-			t.Fatalf("CreateStep(%v, %v, %d, %+v) is %+v, %v, not %+v, %v", p, m, w, h, got, is, want, wantIs)
-		}
-		if impl.Fit(p, given, w, h) != wantFit {
-			t.Fatalf("Fit(%v, %v, %d, %+v) is not %v", p, m, w, h, wantFit)
-		}
-		if !sameMem(fullHeaps(whole), before) || !sameMem(given, m) {
-			t.Fatalf("CreateStep or Fit wrote into %v, or behind it: %v", m, whole)
-		}
-	}
-	if p != givenPlan || w != givenWorker || h != givenHand {
-		t.Fatalf("%v, %d or %+v did not stay", givenPlan, givenWorker, givenHand)
-	}
-}
+var creating = stepper{"CreateStep", impl.CreateStep, expectedCreate}
 
 var createPlan = impl.Plan{Procs: 2, Workers: 5, Timers: 6}
 
@@ -174,25 +108,25 @@ func TestCreateWholeNew(t *testing.T) {
 	h, _ := impl.Called(createPlan, impl.NewHand(), newCall)
 	want := impl.Done{Mem: clonedMem(m), Hand: impl.Hand{At: impl.AtLock, Call: newCall, Timer: 4}}
 	want.Mem.Timers = append(want.Mem.Timers, impl.Timer{Status: impl.StModifying, When: 140, Period: 7, Place: -1, Kind: impl.KdFunc})
-	checkStep(t, createPlan, m, 3, h, want)
+	creating.check(t, createPlan, m, 3, h, want)
 
 	before := want
 	want.Mem = clonedMem(want.Mem)
 	want.Mem.Procs[1].Lock, want.Hand.At = 3, impl.AtPush
-	checkStep(t, createPlan, before.Mem, 3, before.Hand, want)
+	creating.check(t, createPlan, before.Mem, 3, before.Hand, want)
 
 	before = want
 	want.Mem = clonedMem(want.Mem)
 	want.Mem.Timers[4] = impl.Timer{Status: impl.StWaiting, When: 140, Period: 7, Place: 1, Gen: 1, Kind: impl.KdFunc}
 	want.Mem.Procs[1].Heap = []impl.Slot{{Id: 1, Key: 130}, {Id: 4, Key: 140}}
 	want.Hand.At, want.Ev = impl.AtUnlock, impl.Ev{Kind: impl.EvArm, Timer: 4, Gen: 1, When: 140, At: 100}
-	checkStep(t, createPlan, before.Mem, 3, before.Hand, want)
+	creating.check(t, createPlan, before.Mem, 3, before.Hand, want)
 
 	before = want
 	want.Mem = clonedMem(want.Mem)
 	want.Mem.Procs[1].Lock, want.Hand, want.Ev = -1, impl.Hand{Timer: -1, Reply: impl.RpOk, Out: 4}, impl.Ev{}
-	checkStep(t, createPlan, before.Mem, 3, before.Hand, want)
-	checkRefused(t, createPlan, want.Mem, 3, want.Hand) // and that was all
+	creating.check(t, createPlan, before.Mem, 3, before.Hand, want)
+	creating.checkRefused(t, createPlan, want.Mem, 3, want.Hand) // and that was all
 }
 
 // Who is set anew comes in at AtLock: its When is the one of the hand, and not what is asked (Clock and delay), nor what it was.
@@ -202,20 +136,20 @@ func TestCreateWholeReset(t *testing.T) {
 	h := impl.Hand{At: impl.AtLock, Call: resetCall, Timer: 3, When: 125, Begin: 17}
 	want := impl.Done{Mem: clonedMem(m), Hand: h}
 	want.Mem.Procs[1].Lock, want.Hand.At = 1, impl.AtPush
-	checkStep(t, createPlan, m, 1, h, want)
+	creating.check(t, createPlan, m, 1, h, want)
 
 	before := want
 	want.Mem = clonedMem(want.Mem)
 	want.Mem.Timers[3] = impl.Timer{Status: impl.StWaiting, When: 125, Next: 66, Period: 9, Place: 1, Gen: 6, Kind: impl.KdFunc, Mail: 81}
 	want.Mem.Procs[1].Heap = []impl.Slot{{Id: 3, Key: 125}, {Id: 1, Key: 130}}
 	want.Hand.At, want.Ev = impl.AtUnlock, impl.Ev{Kind: impl.EvArm, Timer: 3, Gen: 6, When: 125, At: 100}
-	checkStep(t, createPlan, before.Mem, 1, before.Hand, want)
+	creating.check(t, createPlan, before.Mem, 1, before.Hand, want)
 
 	before = want
 	want.Mem = clonedMem(want.Mem)
 	want.Mem.Procs[1].Lock, want.Hand, want.Ev = -1, impl.Hand{Timer: -1, Reply: impl.RpNo}, impl.Ev{}
-	checkStep(t, createPlan, before.Mem, 1, before.Hand, want)
-	checkRefused(t, createPlan, want.Mem, 1, want.Hand)
+	creating.check(t, createPlan, before.Mem, 1, before.Hand, want)
+	creating.checkRefused(t, createPlan, want.Mem, 1, want.Hand)
 }
 
 // With another one at the lock there is a step each time, and nothing is done by it; when it is free it goes on.
@@ -236,13 +170,13 @@ func TestCreateWhileAnotherHoldsTheLock(t *testing.T) {
 					m, h = d.Mem, d.Hand
 				}
 				for range 3 {
-					checkStep(t, createPlan, m, w, h, impl.Done{Mem: m, Hand: h})
+					creating.check(t, createPlan, m, w, h, impl.Done{Mem: m, Hand: h})
 				}
 				m = clonedMem(m)
 				m.Procs[home].Lock, m.Procs[1-home].Lock = -1, other // the lock of the other processor is not in the way
 				want := impl.Done{Mem: clonedMem(m), Hand: h}
 				want.Mem.Procs[home].Lock, want.Hand.At = w, impl.AtPush
-				checkStep(t, createPlan, m, w, h, want)
+				creating.check(t, createPlan, m, w, h, want)
 			}
 		}
 	}
@@ -274,7 +208,7 @@ func TestAllocHowManyTimers(t *testing.T) {
 					want.Hand.At, want.Hand.Timer = impl.AtLock, count
 					want.Mem.Timers = append(want.Mem.Timers, impl.Timer{Status: impl.StModifying, When: 140, Period: 7, Place: -1, Kind: impl.KdFunc})
 				}
-				checkStep(t, p, m, 1, h, want)
+				creating.check(t, p, m, 1, h, want)
 			}
 		}
 	}
@@ -294,15 +228,10 @@ func TestAllocTheTimer(t *testing.T) {
 				want := impl.Done{Mem: clonedMem(m), Hand: h}
 				want.Mem.Timers = append(want.Mem.Timers, impl.Timer{Status: 2, When: c.want, Period: period, Place: -1, Kind: kind})
 				want.Hand.At, want.Hand.Timer = 2, 1
-				checkStep(t, createPlan, m, 0, h, want)
+				creating.check(t, createPlan, m, 0, h, want)
 			}
 		}
 	}
-}
-
-// otherCalls are right ones of each Code but these.
-func otherCalls(p impl.Plan, but ...int64) []impl.Call {
-	return slices.DeleteFunc(rightCalls(p), func(c impl.Call) bool { return slices.Contains(but, c.Code) })
 }
 
 func TestAllocOfAnotherCode(t *testing.T) {
@@ -319,7 +248,7 @@ func TestAllocOfAnotherCode(t *testing.T) {
 			for w := range createPlan.Workers {
 				h := impl.Hand{At: impl.AtAlloc, Call: c, Timer: -1}
 				checkFit(t, createPlan, m, w, h, true)
-				checkRefused(t, createPlan, m, w, h)
+				creating.checkRefused(t, createPlan, m, w, h)
 			}
 		}
 	}
@@ -344,7 +273,7 @@ func TestLockByEachHolder(t *testing.T) {
 						want.Mem = clonedMem(m)
 						want.Mem.Procs[home].Lock, want.Hand.At = w, impl.AtPush
 					}
-					checkStep(t, p, m, w, h, want)
+					creating.check(t, p, m, w, h, want)
 				}
 			}
 		}
@@ -368,7 +297,7 @@ func TestPushTellsWhatIsArmed(t *testing.T) {
 						k.Status, k.Place, k.Gen, k.When = impl.StWaiting, 0, c.want, want.Ev.When
 						want.Mem.Timers[1], want.Hand.At = k, impl.AtUnlock
 						want.Mem.Procs[0].Heap = []impl.Slot{{Id: 1, Key: k.When}}
-						checkStep(t, createPlan, m, 2, h, want)
+						creating.check(t, createPlan, m, 2, h, want)
 					}
 				}
 			}
@@ -388,7 +317,7 @@ func TestPushWhoeverHoldsTheLock(t *testing.T) {
 				want.Mem.Timers[3] = impl.Timer{Status: impl.StWaiting, When: 30, Place: w % 2, Gen: 2}
 				want.Mem.Procs[w%2].Heap = [][]impl.Slot{{{Id: 3, Key: 30}, {Id: 0, Key: 150}}, {{Id: 3, Key: 30}, {Id: 1, Key: 130}}}[w%2]
 				want.Hand.At = impl.AtUnlock
-				checkStep(t, createPlan, m, w, h, want)
+				creating.check(t, createPlan, m, w, h, want)
 			}
 		}
 	}
@@ -430,7 +359,7 @@ func TestPushOfNoTimer(t *testing.T) {
 			for _, c := range rightCalls(createPlan) {
 				h := impl.Hand{At: impl.AtPush, Call: c, Timer: -1, When: 9}
 				checkFit(t, createPlan, m, w, h, true)
-				checkRefused(t, createPlan, m, w, h)
+				creating.checkRefused(t, createPlan, m, w, h)
 			}
 		}
 	}
@@ -467,7 +396,7 @@ func TestPushWhereItComesTo(t *testing.T) {
 			timers[10] = turned(impl.StWaiting, c.when, 0, 0)
 			want := impl.Done{Mem: laidMem(t, 50, timers, c.want...), Hand: h, Ev: impl.Ev{Kind: 1, Timer: 10, Gen: 2, When: c.when, At: 50}}
 			want.Hand.At = impl.AtUnlock
-			checkStep(t, tidyPlan, m, 1, h, want)
+			creating.check(t, tidyPlan, m, 1, h, want)
 		}
 	}
 }
@@ -489,7 +418,7 @@ func TestUnlockByEachHolderAndCode(t *testing.T) {
 						if holder == w {
 							want.Mem.Procs[w%2].Lock = -1
 						}
-						checkStep(t, createPlan, m, w, h, want)
+						creating.check(t, createPlan, m, w, h, want)
 					}
 				}
 			}
@@ -510,7 +439,7 @@ func TestCreateAtOtherAts(t *testing.T) {
 				for w := range createPlan.Workers {
 					h := impl.Hand{At: at, Call: c, Timer: timer, When: 8}
 					checkFit(t, createPlan, m, w, h, at == impl.AtRest || c != impl.Call{})
-					checkRefused(t, createPlan, m, w, h)
+					creating.checkRefused(t, createPlan, m, w, h)
 				}
 			}
 		}
@@ -531,14 +460,14 @@ func TestFitOrdinary(t *testing.T) {
 			is := w >= 0 && w <= 4
 			checkFit(t, createPlan, busyMem(), w, h, is)
 			if !is {
-				checkRefused(t, createPlan, busyMem(), w, h)
+				creating.checkRefused(t, createPlan, busyMem(), w, h)
 			} else if _, made := impl.CreateStep(createPlan, busyMem(), w, h); made != (h.At != impl.AtRest) {
 				t.Errorf("CreateStep of worker %d with %+v is %v", w, h, made)
 			}
 		}
 		for _, w := range []int64{math.MinInt64, 5, 6, 7, 8, 1 << 32, 1<<32 + 1, math.MaxInt64} {
 			checkFit(t, createPlan, busyMem(), w, h, false)
-			checkRefused(t, createPlan, busyMem(), w, h)
+			creating.checkRefused(t, createPlan, busyMem(), w, h)
 		}
 	}
 }
@@ -551,7 +480,7 @@ func TestFitEachWorker(t *testing.T) {
 			for w := int64(-2); w <= workersLimit+1; w++ {
 				for _, h := range []impl.Hand{impl.NewHand(), {At: impl.AtAlloc, Call: newCall, Timer: -1}, {At: impl.AtLock, Call: newCall, Timer: -1}} {
 					checkFit(t, p, impl.NewMem(p), w, h, w >= 0 && w < workers)
-					checkCreateAnswers(t, p, impl.NewMem(p), w, h)
+					creating.checkAnswers(t, p, impl.NewMem(p), w, h)
 				}
 			}
 		}
@@ -570,7 +499,7 @@ func TestFitTimerThatIsThere(t *testing.T) {
 					h := impl.Hand{At: at, Call: newCall, Timer: timer}
 					checkFit(t, p, m, 2, h, is)
 					if !is {
-						checkRefused(t, p, m, 2, h)
+						creating.checkRefused(t, p, m, 2, h)
 					}
 				}
 			}
@@ -578,75 +507,8 @@ func TestFitTimerThatIsThere(t *testing.T) {
 	}
 }
 
-func TestFitPlanNotRight(t *testing.T) {
-	for _, p := range wrongPlans(createPlan) {
-		for _, h := range stepHands() {
-			for _, m := range []impl.Mem{busyMem(), memOf(createPlan, 0), {}} {
-				for w := int64(-1); w <= 5; w++ {
-					checkFit(t, p, m, w, h, false)
-					checkRefused(t, p, m, w, h)
-				}
-			}
-		}
-	}
-}
-
-func TestFitMemoryNotRight(t *testing.T) {
-	for name, edit := range map[string]func(m *impl.Mem){
-		"the zero Mem":     func(m *impl.Mem) { *m = impl.Mem{} },
-		"Clock at MaxTime": func(m *impl.Mem) { m.Clock = timeLimit },
-		"Clock below 0":    func(m *impl.Mem) { m.Clock = -1 },
-		"no Procs":         func(m *impl.Mem) { m.Procs = nil },
-		"a Proc less":      func(m *impl.Mem) { m.Procs = m.Procs[:1] },
-		"a Proc more":      func(m *impl.Mem) { m.Procs = append(m.Procs, idle(nil)) },
-		"a timer too many": func(m *impl.Mem) { m.Timers = append(m.Timers, slices.Repeat(m.Timers[2:3], 3)...) },
-		"no slot":          func(m *impl.Mem) { m.Procs[1].Heap = nil },
-		"a slot twice":     func(m *impl.Mem) { m.Procs[0].Heap = append(m.Procs[0].Heap, m.Procs[0].Heap[0]) },
-		"a Key":            func(m *impl.Mem) { m.Procs[0].Heap[0].Key++ },
-		"a Lock":           func(m *impl.Mem) { m.Procs[0].Lock = 5 },
-		"a Lock below -1":  func(m *impl.Mem) { m.Procs[1].Lock = -2 },
-		"Deleted":          func(m *impl.Mem) { m.Procs[1].Deleted = 1 },
-		"Earliest":         func(m *impl.Mem) { m.Procs[1].Earliest = timeLimit + 1 },
-		"a Gen":            func(m *impl.Mem) { m.Timers[3].Gen = genLimit + 1 },
-		"a Status":         func(m *impl.Mem) { m.Timers[3].Status = 8 },
-		"a Place":          func(m *impl.Mem) { m.Timers[3].Place = 2 },
-		"a Place alone":    func(m *impl.Mem) { m.Timers[3].Place = 0 },
-	} {
-		m := edited(busyMem(), edit)
-		for _, h := range stepHands() {
-			for w := range createPlan.Workers {
-				if impl.Fit(createPlan, m, w, h) {
-					t.Errorf("%s: it is fit", name)
-				}
-				checkRefused(t, createPlan, m, w, h)
-			}
-		}
-	}
-}
-
-func TestFitHandNotRight(t *testing.T) {
-	for _, h := range brokenHands(createPlan) {
-		for w := range createPlan.Workers {
-			checkFit(t, createPlan, busyMem(), w, h, false)
-			checkRefused(t, createPlan, busyMem(), w, h)
-		}
-	}
-	for _, base := range stepHands()[:7] {
-		for _, f := range handFields {
-			for _, n := range []int64{math.MinInt64, f.least - 1, f.most(createPlan) + 1, math.MaxInt64} {
-				h := base
-				*f.at(&h) = n
-				checkFit(t, createPlan, busyMem(), 1, h, false)
-				checkRefused(t, createPlan, busyMem(), 1, h)
-			}
-		}
-		for _, c := range unfitCalls(createPlan) {
-			h := base
-			h.Call = c
-			checkFit(t, createPlan, busyMem(), 1, h, false)
-			checkRefused(t, createPlan, busyMem(), 1, h)
-		}
-	}
+func TestFitArgumentsNotRight(t *testing.T) {
+	creating.checkUnfitArguments(t, createPlan, busyMem(), stepHands())
 }
 
 // createHands are of each At of the chapter, each Code and each Timer that is there; and a few at all others.
@@ -675,7 +537,7 @@ func TestCreateAsToldOfEachLock(t *testing.T) {
 			m.Procs[0].Lock, m.Procs[1].Lock = lock0, lock1
 			for w := int64(-1); w <= 3; w++ {
 				for _, h := range createHands(p, m) {
-					checkCreateAnswers(t, p, m, w, h)
+					creating.checkAnswers(t, p, m, w, h)
 				}
 			}
 		}
@@ -706,7 +568,7 @@ func TestCreateAsToldOfMixtures(t *testing.T) {
 	for _, c := range tidyMems(t) {
 		for range 60 {
 			w, h := r.Int63n(c.p.Workers+2)-1, anyStepHand(r, c.p, c.m)
-			checkCreateAnswers(t, c.p, c.m, w, h)
+			creating.checkAnswers(t, c.p, c.m, w, h)
 			if _, is := expectedCreate(c.p, c.m, w, h); is {
 				made[h.At]++
 			} else {
@@ -716,7 +578,7 @@ func TestCreateAsToldOfMixtures(t *testing.T) {
 		for range 6 {
 			m := clonedMem(c.m)
 			disturb(r, &m)
-			checkCreateAnswers(t, c.p, m, r.Int63n(c.p.Workers), anyStepHand(r, c.p, m))
+			creating.checkAnswers(t, c.p, m, r.Int63n(c.p.Workers), anyStepHand(r, c.p, m))
 		}
 	}
 	for at := int64(1); at <= 4; at++ {
@@ -933,90 +795,26 @@ func TestPromise9DueWhenItWasAsked(t *testing.T) {
 	}
 }
 
-// Promise 19: an answer is new memory, also where nothing was to be done: to write into it, or into the argument, changes nothing in the other, nor in another list of it.
+// Promise 19: an answer is new memory, also where nothing was to be done.
 func TestPromise19CreatingIsNewMemory(t *testing.T) {
 	r := rand.New(rand.NewSource(19))
-	check := func(p impl.Plan, m impl.Mem, w int64, h impl.Hand) {
-		given, whole := sparedMem(m)
-		before := fullHeaps(whole)
-		got, _ := impl.CreateStep(p, given, w, h)
-		again, _ := impl.CreateStep(p, given, w, h)
-		want := clonedMem(got.Mem)
-		scribble(got.Mem)
-		if !sameMem(fullHeaps(whole), before) || !sameMem(given, m) || !sameMem(again.Mem, want) {
-			t.Fatalf("the answer at %d shares memory with %v, or with another answer", h.At, m)
-		}
-		scribble(whole)
-		if !sameMem(again.Mem, want) {
-			t.Fatalf("the answer at %d shares memory with %v", h.At, m)
-		}
-		checkListsApart(t, again.Mem)
-	}
 	for _, h := range append(stepHands(), impl.Hand{At: impl.AtTake, Call: newCall, Timer: -1}) {
 		for w := range createPlan.Workers {
 			for lock := int64(-1); lock < createPlan.Workers; lock++ {
 				m := busyMem()
 				m.Procs[w%2].Lock = lock
-				check(createPlan, m, w, h)
+				creating.checkNewMemory(t, createPlan, m, w, h)
 			}
 		}
 	}
 	for _, c := range tidyMems(t) {
 		for range 12 {
-			check(c.p, c.m, r.Int63n(c.p.Workers), anyStepHand(r, c.p, c.m))
+			creating.checkNewMemory(t, c.p, c.m, r.Int63n(c.p.Workers), anyStepHand(r, c.p, c.m))
 		}
 	}
 }
 
-// Promise 19: both functions answer at every argument and none panics: each number at each edge, and lists of any length.
+// Promise 19: both functions answer at every argument and none panics.
 func TestPromise19CreatingAnswersEverywhere(t *testing.T) {
-	for _, n := range slices.Concat(edges, manyStatuses) {
-		for _, h := range stepHands() {
-			checkCreateAnswers(t, createPlan, busyMem(), n, h)
-			checkCreateAnswers(t, impl.Plan{Procs: n, Workers: n, Timers: n}, busyMem(), n, h)
-			checkCreateAnswers(t, impl.Plan{Procs: n, Workers: 5, Timers: 6}, busyMem(), 1, h)
-			checkCreateAnswers(t, createPlan, edited(busyMem(), func(m *impl.Mem) { m.Clock = n }), 1, h)
-			for _, f := range handFields {
-				wild := h
-				*f.at(&wild) = n
-				checkCreateAnswers(t, createPlan, busyMem(), 1, wild)
-			}
-			for i := range busyMem().Timers {
-				for _, set := range []func(k *impl.Timer){func(k *impl.Timer) { k.Status = n }, func(k *impl.Timer) { k.Place = n }, func(k *impl.Timer) { k.When = n }, func(k *impl.Timer) { k.Gen = n }} {
-					checkCreateAnswers(t, createPlan, edited(busyMem(), func(m *impl.Mem) { set(&m.Timers[i]) }), 1, h)
-				}
-			}
-			for i := range busyMem().Procs {
-				for _, f := range procFields {
-					checkCreateAnswers(t, createPlan, edited(busyMem(), func(m *impl.Mem) { f.set(&m.Procs[i], n) }), 1, h)
-				}
-				checkCreateAnswers(t, createPlan, edited(busyMem(), func(m *impl.Mem) { m.Procs[i].Heap[0].Id = n }), 1, h)
-				checkCreateAnswers(t, createPlan, edited(busyMem(), func(m *impl.Mem) { m.Procs[i].Heap[0].Key = n }), 1, h)
-			}
-		}
-	}
-	for _, c := range wildCalls() {
-		for at := int64(0); at <= impl.AtUnlock; at++ {
-			checkCreateAnswers(t, createPlan, busyMem(), 2, impl.Hand{At: at, Call: c, Timer: 3})
-		}
-	}
-	for _, h := range append(wildHands(), stepHands()...) {
-		for _, p := range append(slices.Clone(wildPlans), rightPlans...) {
-			checkCreateAnswers(t, p, impl.Mem{}, 0, h)
-			checkCreateAnswers(t, p, impl.NewMem(p), 0, h)
-		}
-	}
-	for _, h := range stepHands() {
-		for _, count := range []int{0, 1, 3, 700} {
-			for _, m := range []impl.Mem{{Timers: make([]impl.Timer, count)}, {Procs: make([]impl.Proc, count)}, {Timers: make([]impl.Timer, count), Procs: make([]impl.Proc, count)}} {
-				for _, p := range append(slices.Clone(wildPlans), rightPlans...) {
-					checkCreateAnswers(t, p, m, 0, h)
-				}
-			}
-		}
-		for _, heap := range procHeaps() {
-			checkCreateAnswers(t, createPlan, impl.Mem{Timers: busyMem().Timers, Procs: []impl.Proc{idle(heap), idle(nil)}}, 1, h)
-			checkCreateAnswers(t, createPlan, impl.Mem{Timers: busyMem().Timers, Procs: []impl.Proc{idle(heap), idle(heap)}}, 0, h)
-		}
-	}
+	creating.checkEverywhere(t, createPlan, busyMem(), stepHands())
 }

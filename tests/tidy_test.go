@@ -901,6 +901,28 @@ func TestPromise6TopIsDueFirst(t *testing.T) {
 	}
 }
 
+// rungOut tidies a heap up and then rings the top as long as it is due, and sees that they ring in order, and not ahead of their time.
+func rungOut(t *testing.T, p impl.Plan, m impl.Mem, place int64) (impl.Mem, []int64) {
+	t.Helper()
+	m = tidiedUp(t, p, m, place)
+	rung, before := []int64{}, int64(0)
+	for {
+		ringing, k := impl.RungAt(p, m, place)
+		if k < 0 {
+			return m, rung
+		}
+		if when := m.Timers[k].When; when > m.Clock || when < before || m.Timers[k].Place != place {
+			t.Fatalf("of %v rings %d after one of %d", m, k, before)
+		}
+		rung, before = append(rung, k), m.Timers[k].When
+		again, is := impl.Rearmed(p, ringing, k)
+		if !is || !expectedMemOk(p, again) || again.Timers[k].Period > 0 && again.Timers[k].When <= m.Clock {
+			t.Fatalf("Rearmed of %v is %v, %v", ringing, again, is)
+		}
+		m = again
+	}
+}
+
 // Promise 6: who tidies a heap up and then rings the top as long as it is due rings all that is due there, in order, once, and nothing else.
 func TestPromise6AllThatIsDueRingsInOrder(t *testing.T) {
 	rings := 0
@@ -913,23 +935,8 @@ func TestPromise6AllThatIsDueRingsInOrder(t *testing.T) {
 		}
 		due, rung := impl.DueIn(c.p, m), []int64{}
 		for place := range c.p.Procs {
-			m = tidiedUp(t, c.p, m, place)
-			before := int64(0)
-			for {
-				ringing, k := impl.RungAt(c.p, m, place)
-				if k < 0 {
-					break
-				}
-				if when := m.Timers[k].When; when > m.Clock || when < before || m.Timers[k].Place != place {
-					t.Fatalf("of %v rings %d after one of %d", m, k, before)
-				}
-				rung, before = append(rung, k), m.Timers[k].When
-				again, is := impl.Rearmed(c.p, ringing, k)
-				if !is || !expectedMemOk(c.p, again) || again.Timers[k].Period > 0 && again.Timers[k].When <= m.Clock {
-					t.Fatalf("Rearmed of %v is %v, %v", ringing, again, is)
-				}
-				m = again
-			}
+			next, there := rungOut(t, c.p, m, place)
+			m, rung = next, append(rung, there...)
 		}
 		rings += len(rung)
 		slices.Sort(rung)
