@@ -214,14 +214,17 @@ func TestAllocHowManyTimers(t *testing.T) {
 	}
 }
 
+// saidTimes are what is said by a delay at a Clock: the one after the other one, at most MaxTime.
+var saidTimes = []struct{ clock, delay, want int64 }{
+	{0, 0, 0}, {0, 1, 1}, {0, timeLimit - 1, timeLimit - 1}, {0, timeLimit, timeLimit}, {1, timeLimit - 2, timeLimit - 1}, {1, timeLimit - 1, timeLimit}, {1, timeLimit, timeLimit},
+	{100, 0, 100}, {100, 50, 150}, {100, timeLimit - 101, timeLimit - 1}, {100, timeLimit - 100, timeLimit}, {100, timeLimit - 99, timeLimit}, {100, timeLimit, timeLimit},
+	{timeLimit - 1, 0, timeLimit - 1}, {timeLimit - 1, 1, timeLimit}, {timeLimit - 1, 2, timeLimit}, {timeLimit - 1, timeLimit, timeLimit}, {timeLimit - 2, 1, timeLimit - 1},
+}
+
 // When is the Clock and the delay, at most MaxTime; Period and Kind are those that were asked, all else is zero.
 func TestAllocTheTimer(t *testing.T) {
-	const M = timeLimit
-	for _, c := range []struct{ clock, delay, want int64 }{
-		{0, 0, 0}, {0, 1, 1}, {0, M - 1, M - 1}, {0, M, M}, {1, M - 2, M - 1}, {1, M - 1, M}, {1, M, M}, {100, 0, 100}, {100, 50, 150},
-		{100, M - 101, M - 1}, {100, M - 100, M}, {100, M - 99, M}, {100, M, M}, {M - 1, 0, M - 1}, {M - 1, 1, M}, {M - 1, 2, M}, {M - 1, M, M}, {M - 2, 1, M - 1},
-	} {
-		for _, period := range []int64{0, 1, 7, M} {
+	for _, c := range saidTimes {
+		for _, period := range []int64{0, 1, 7, timeLimit} {
 			for _, kind := range []int64{0, 1} {
 				m := memOf(createPlan, c.clock, waiting(5, 0))
 				h := impl.Hand{At: impl.AtAlloc, Call: impl.Call{Code: impl.OpNew, A: kind, B: c.delay, C: period}, Timer: -1}
@@ -426,24 +429,10 @@ func TestUnlockByEachHolderAndCode(t *testing.T) {
 	}
 }
 
-// At each At that is not of this chapter there is no step, with whatever Call, though all is fit.
 func TestCreateAtOtherAts(t *testing.T) {
 	m := busyMem()
 	m.Procs[0].Lock = 2
-	for at := range int64(atLimit + 1) {
-		if at >= impl.AtAlloc && at <= impl.AtUnlock {
-			continue
-		}
-		for _, c := range append(rightCalls(createPlan), impl.Call{}) {
-			for timer := int64(-1); timer < 4; timer++ {
-				for w := range createPlan.Workers {
-					h := impl.Hand{At: at, Call: c, Timer: timer, When: 8}
-					checkFit(t, createPlan, m, w, h, at == impl.AtRest || c != impl.Call{})
-					creating.checkRefused(t, createPlan, m, w, h)
-				}
-			}
-		}
-	}
+	creating.checkOtherAts(t, createPlan, m, []int64{impl.AtAlloc, impl.AtLock, impl.AtPush, impl.AtUnlock})
 }
 
 // stepHands are fit in busyMem, each at a step that could be made; and one at rest.
@@ -563,24 +552,7 @@ func anyStepHand(r *rand.Rand, p impl.Plan, m impl.Mem) impl.Hand {
 }
 
 func TestCreateAsToldOfMixtures(t *testing.T) {
-	r := rand.New(rand.NewSource(9))
-	made, refused := map[int64]int{}, 0
-	for _, c := range tidyMems(t) {
-		for range 60 {
-			w, h := r.Int63n(c.p.Workers+2)-1, anyStepHand(r, c.p, c.m)
-			creating.checkAnswers(t, c.p, c.m, w, h)
-			if _, is := expectedCreate(c.p, c.m, w, h); is {
-				made[h.At]++
-			} else {
-				refused++
-			}
-		}
-		for range 6 {
-			m := clonedMem(c.m)
-			disturb(r, &m)
-			creating.checkAnswers(t, c.p, m, r.Int63n(c.p.Workers), anyStepHand(r, c.p, m))
-		}
-	}
+	made, _, refused := creating.checkMixtures(t, 9, anyStepHand)
 	for at := int64(1); at <= 4; at++ {
 		if made[at] < 500 {
 			t.Errorf("at %d only %d steps were made", at, made[at])
@@ -797,7 +769,6 @@ func TestPromise9DueWhenItWasAsked(t *testing.T) {
 
 // Promise 19: an answer is new memory, also where nothing was to be done.
 func TestPromise19CreatingIsNewMemory(t *testing.T) {
-	r := rand.New(rand.NewSource(19))
 	for _, h := range append(stepHands(), impl.Hand{At: impl.AtTake, Call: newCall, Timer: -1}) {
 		for w := range createPlan.Workers {
 			for lock := int64(-1); lock < createPlan.Workers; lock++ {
@@ -807,11 +778,7 @@ func TestPromise19CreatingIsNewMemory(t *testing.T) {
 			}
 		}
 	}
-	for _, c := range tidyMems(t) {
-		for range 12 {
-			creating.checkNewMemory(t, c.p, c.m, r.Int63n(c.p.Workers), anyStepHand(r, c.p, c.m))
-		}
-	}
+	creating.checkNewMemories(t, 19, anyStepHand)
 }
 
 // Promise 19: both functions answer at every argument and none panics.

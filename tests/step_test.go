@@ -2,6 +2,7 @@ package tests
 
 import (
 	"math"
+	"math/rand"
 	"slices"
 	"testing"
 
@@ -17,6 +18,52 @@ type stepper struct {
 	name string
 	step stepFunc
 	told stepFunc
+}
+
+var variedPlan = impl.Plan{Procs: 2, Workers: 5, Timers: 12}
+
+// variedMem has a timer of each status, of StModifying one with a Place and one without, and two more that may be there; each has numbers of its own. The worker 3 holds the one heap, nobody the other one.
+func variedMem() impl.Mem {
+	m := memOf(variedPlan, 100,
+		waiting(150, 0), turned(impl.StEarlier, 190, 95, 0), outside(impl.StNone, 20), turned(impl.StModifying, 130, 0, 1), turned(impl.StLater, 80, 170, 1),
+		turned(impl.StDeleted, 85, 0, 0), turned(impl.StRunning, 90, 0, 1), outside(impl.StRemoved, 30), outside(impl.StModifying, 40), waiting(60, 1))
+	for i := range m.Timers {
+		k := &m.Timers[i]
+		k.Period, k.Gen, k.Kind, k.Mail = 3+int64(i), 20+int64(i), int64(i)%2, 39*int64(i%3)
+	}
+	m.Procs[0].Lock = 3
+	return m
+}
+
+// A standing is one way in which a timer may stand in a heap, or outside: when it was to ring, if it was, and otherwise whether who looks at it to change it stays.
+type standing struct {
+	status, when, next int64
+	places             []int64
+	told               int64 // the When of the EvCancel; -1 where there is none
+	stays              bool
+}
+
+var standings = []standing{
+	{impl.StNone, 45, 60, []int64{-1}, -1, false},
+	{impl.StNone, 0, 0, []int64{-1}, -1, false},
+	{impl.StWaiting, 45, 60, []int64{0, 1, 2}, 45, false},
+	{impl.StWaiting, 60, 45, []int64{0, 1, 2}, 60, false},
+	{impl.StWaiting, 0, timeLimit, []int64{0, 1, 2}, 0, false},
+	{impl.StWaiting, timeLimit, 0, []int64{0, 1, 2}, timeLimit, false},
+	{impl.StModifying, 45, 60, []int64{-1, 0, 1, 2}, -1, true},
+	{impl.StModifying, 60, 45, []int64{-1, 0, 1, 2}, -1, true},
+	{impl.StEarlier, 60, 45, []int64{0, 1, 2}, 45, false},
+	{impl.StEarlier, 1, 0, []int64{0, 1, 2}, 0, false},
+	{impl.StEarlier, timeLimit, timeLimit - 1, []int64{0, 1, 2}, timeLimit - 1, false},
+	{impl.StLater, 45, 60, []int64{0, 1, 2}, 60, false},
+	{impl.StLater, 45, 45, []int64{0, 1, 2}, 45, false},
+	{impl.StLater, 0, timeLimit, []int64{0, 1, 2}, timeLimit, false},
+	{impl.StLater, 0, 0, []int64{0, 1, 2}, 0, false},
+	{impl.StDeleted, 45, 60, []int64{0, 1, 2}, -1, false},
+	{impl.StDeleted, 60, 45, []int64{0, 1, 2}, -1, false},
+	{impl.StRunning, 45, 60, []int64{0, 1, 2}, -1, true},
+	{impl.StRunning, 60, 45, []int64{0, 1, 2}, -1, true},
+	{impl.StRemoved, 45, 60, []int64{-1}, -1, false},
 }
 
 // The document's own words; that the Timer is not below -1 is told by the hand.
@@ -173,6 +220,230 @@ func (s stepper) checkUnfitArguments(t *testing.T, p impl.Plan, m impl.Mem, hand
 			s.checkUnfit(t, p, m, w, h)
 		}
 	}
+}
+
+// checkOtherAts sees that at each At but these there is no step, with whatever Call, and with these, though all is fit.
+func (s stepper) checkOtherAts(t *testing.T, p impl.Plan, m impl.Mem, own []int64, calls ...impl.Call) {
+	t.Helper()
+	for at := range int64(atLimit + 1) {
+		if slices.Contains(own, at) {
+			continue
+		}
+		for _, c := range slices.Concat(rightCalls(p), calls, []impl.Call{{}}) {
+			for timer := int64(-1); timer < int64(len(m.Timers)); timer++ {
+				for w := range p.Workers {
+					h := impl.Hand{At: at, Call: c, Timer: timer, When: 8}
+					checkFit(t, p, m, w, h, at == impl.AtRest || c != impl.Call{})
+					s.checkRefused(t, p, m, w, h)
+				}
+			}
+		}
+	}
+}
+
+// checkEachWorker sees that each of these hands is fit, with each worker, and has its step, unless it rests.
+func (s stepper) checkEachWorker(t *testing.T, p impl.Plan, m impl.Mem, hands []impl.Hand) {
+	t.Helper()
+	for _, h := range hands {
+		for w := range p.Workers {
+			checkFit(t, p, m, w, h, true)
+			if _, is := s.step(p, m, w, h); is != (h.At != impl.AtRest) {
+				t.Errorf("%s of worker %d with %+v is %v", s.name, w, h, is)
+			}
+		}
+	}
+}
+
+// checkTimerNotThere sees that the hand's Timer is to be -1 or there, though to look for another one it would not matter.
+func (s stepper) checkTimerNotThere(t *testing.T, p impl.Plan, m impl.Mem, hands []impl.Hand) {
+	t.Helper()
+	for _, h := range hands {
+		for timer := int64(len(m.Timers)); timer < p.Timers+2; timer++ {
+			h.Timer = timer
+			for w := range p.Workers {
+				s.checkUnfit(t, p, m, w, h)
+			}
+		}
+	}
+}
+
+// checkLookOfAnotherCode sees that to look is of this chapter only where this was asked; other ones look too, but not here.
+func (s stepper) checkLookOfAnotherCode(t *testing.T, code int64) {
+	t.Helper()
+	m := variedMem()
+	calls := rightCalls(variedPlan)
+	for id := range variedPlan.Timers {
+		calls = append(calls, impl.Call{Code: impl.OpStop, A: id}, impl.Call{Code: impl.OpReset, A: id, B: 9}, impl.Call{Code: impl.OpRecv, A: id})
+	}
+	for _, c := range calls {
+		for timer := int64(-1); timer < int64(len(m.Timers)); timer++ {
+			for w := range variedPlan.Workers {
+				h := impl.Hand{At: impl.AtLook, Call: c, Timer: timer}
+				checkFit(t, variedPlan, m, w, h, true)
+				if c.Code != code {
+					s.checkRefused(t, variedPlan, m, w, h)
+				}
+			}
+		}
+	}
+}
+
+// checkLookAtEachStatus looks with this Call, of the timer 2, at each standing, with each Place, Clock and Gen; what comes of it is told by what is changed of the memory and of the hand.
+func (s stepper) checkLookAtEachStatus(t *testing.T, call impl.Call, change func(c standing, want *impl.Done)) {
+	t.Helper()
+	for _, c := range standings {
+		for _, place := range c.places {
+			for _, clock := range []int64{0, 45, 50, timeLimit - 1} {
+				for _, gen := range []int64{0, 1, genLimit} {
+					k := impl.Timer{Status: c.status, When: c.when, Next: c.next, Period: 7, Place: place, Gen: gen, Kind: impl.KdFunc, Mail: 39}
+					m := memOf(memPlan, clock, waiting(40, 0), turned(impl.StDeleted, 10, 0, 2), k, turned(impl.StEarlier, 44, 43, 1))
+					for timer := int64(-1); timer < 4; timer++ {
+						h := impl.Hand{At: impl.AtLook, Call: call, Timer: timer, When: 8, Had: timer > 1, Count: 2, Begin: 6, Reply: impl.RpFull, Out: 5}
+						want := impl.Done{Mem: clonedMem(m), Hand: h}
+						change(c, &want)
+						for w := range memPlan.Workers {
+							s.check(t, memPlan, m, w, h, want)
+						}
+					}
+				}
+			}
+		}
+	}
+}
+
+// checkTurnAtEachStatus makes a step with this hand, and each Call, of the timer 1, at each standing: who is changed is the Timer of the hand, whatever the Call; it is to be StModifying, and to have a Place.
+func (s stepper) checkTurnAtEachStatus(t *testing.T, h impl.Hand, change func(place int64, want *impl.Done)) {
+	t.Helper()
+	h.Timer, h.Count, h.Begin, h.Reply, h.Out = 1, 2, 6, impl.RpFull, 5
+	for _, c := range standings {
+		for _, place := range c.places {
+			k := marked(turned(c.status, c.when, c.next, place))
+			m := memOf(memPlan, 50, waiting(40, 0), k, waiting(10, 2), turned(impl.StDeleted, 30, 0, 1), turned(impl.StDeleted, 30, 0, 0), turned(impl.StDeleted, 9, 0, 1))
+			for _, call := range append(rightCalls(memPlan), stopOf(0), stopOf(2), stopOf(7)) {
+				h.Call = call
+				for w := range memPlan.Workers {
+					if c.status != impl.StModifying || place == -1 {
+						checkFit(t, memPlan, m, w, h, true)
+						s.checkRefused(t, memPlan, m, w, h)
+						continue
+					}
+					want := impl.Done{Mem: clonedMem(m), Hand: h}
+					change(place, &want)
+					s.check(t, memPlan, m, w, h, want)
+				}
+			}
+		}
+	}
+}
+
+// checkTurnOfNoTimer sees that without a Timer nobody is changed, though the Call names one that could be.
+func (s stepper) checkTurnOfNoTimer(t *testing.T, at int64) {
+	t.Helper()
+	for _, m := range []impl.Mem{variedMem(), memOf(variedPlan, 0), memOf(variedPlan, 3, turned(impl.StModifying, 30, 0, 0))} {
+		for w := range variedPlan.Workers {
+			for _, c := range append(rightCalls(variedPlan), stopOf(0), stopOf(3), impl.Call{Code: impl.OpReset, A: 3, B: 9}) {
+				h := impl.Hand{At: at, Call: c, Timer: -1}
+				checkFit(t, variedPlan, m, w, h, true)
+				s.checkRefused(t, variedPlan, m, w, h)
+			}
+		}
+	}
+}
+
+// checkStays sees that who looks at the timer 1 with this Call stays, as often as he looks, whoever holds the heap, while another one changes it, or it rings.
+func (s stepper) checkStays(t *testing.T, c impl.Call) {
+	t.Helper()
+	for _, k := range []impl.Timer{turned(impl.StModifying, 45, 60, 1), outside(impl.StModifying, 45), turned(impl.StRunning, 45, 60, 1)} {
+		for timer := int64(-1); timer < 2; timer++ {
+			m := memOf(memPlan, 50, waiting(40, 0), k)
+			h := impl.Hand{At: impl.AtLook, Call: c, Timer: timer}
+			for w := range memPlan.Workers {
+				for lock := int64(-1); lock < memPlan.Workers; lock++ {
+					m.Procs[1].Lock = lock
+					for range 3 {
+						s.check(t, memPlan, m, w, h, impl.Done{Mem: m, Hand: h})
+					}
+				}
+			}
+		}
+	}
+}
+
+// A handMaker makes hands at random for a memory.
+type handMaker func(r *rand.Rand, p impl.Plan, m impl.Mem) impl.Hand
+
+// checkMixtures asks it of many memories, right ones and disturbed ones; it counts the steps made of the right ones by their At, their replies, and those refused.
+func (s stepper) checkMixtures(t *testing.T, seed int64, maker handMaker) (map[int64]int, map[int64]int, int) {
+	t.Helper()
+	r := rand.New(rand.NewSource(seed))
+	made, replies, refused := map[int64]int{}, map[int64]int{}, 0
+	for _, c := range tidyMems(t) {
+		for range 60 {
+			w, h := r.Int63n(c.p.Workers+2)-1, maker(r, c.p, c.m)
+			s.checkAnswers(t, c.p, c.m, w, h)
+			d, is := s.told(c.p, c.m, w, h)
+			if !is {
+				refused++
+				continue
+			}
+			made[h.At]++
+			if d.Hand.At == impl.AtRest {
+				replies[d.Hand.Reply]++
+			}
+		}
+		for range 6 {
+			m := clonedMem(c.m)
+			disturb(r, &m)
+			s.checkAnswers(t, c.p, m, r.Int63n(c.p.Workers), maker(r, c.p, m))
+		}
+	}
+	return made, replies, refused
+}
+
+// checkNewMemories sees of many memories that answers are new.
+func (s stepper) checkNewMemories(t *testing.T, seed int64, maker handMaker) {
+	t.Helper()
+	r := rand.New(rand.NewSource(seed))
+	for _, c := range tidyMems(t) {
+		for range 12 {
+			s.checkNewMemory(t, c.p, c.m, r.Int63n(c.p.Workers), maker(r, c.p, c.m))
+		}
+	}
+}
+
+// A caller is a worker with a call, and what was told by him.
+type caller struct {
+	worker int64
+	hand   impl.Hand
+	told   []impl.Ev
+}
+
+func newCaller(t *testing.T, p impl.Plan, w int64, c impl.Call) caller {
+	t.Helper()
+	h, code := impl.Called(p, impl.NewHand(), c)
+	if code != impl.CdOk {
+		t.Fatalf("Called of %+v tells %d", c, code)
+	}
+	return caller{worker: w, hand: h}
+}
+
+// oneStep makes one step, and sees that there is one, that it keeps all right, and that statuses pass as they may.
+func (c *caller) oneStep(t *testing.T, s stepper, p impl.Plan, m impl.Mem) impl.Done {
+	t.Helper()
+	d, is := s.step(p, m, c.worker, c.hand)
+	if !is || !impl.MemOk(p, d.Mem) || !impl.HandOk(p, d.Hand) || len(d.Mem.Timers) < len(m.Timers) {
+		t.Fatalf("%s(%v, %v, %d, %+v) is %+v, %v", s.name, p, m, c.worker, c.hand, d, is)
+	}
+	for i, before := range m.Timers {
+		if after := d.Mem.Timers[i]; before.Status != after.Status && !impl.Passes(before.Status, after.Status) {
+			t.Fatalf("at %d %v came to be %v", c.hand.At, before, after)
+		}
+	}
+	if d.Ev != (impl.Ev{}) {
+		c.told = append(c.told, d.Ev)
+	}
+	c.hand = d.Hand
+	return d
 }
 
 // checkEverywhere asks it with each number at each edge, and lists of any length; the memory has a slot in each heap.

@@ -51,24 +51,9 @@ func expectedLookToStop(d impl.Done) impl.Done {
 
 var stopping = stepper{"StopStep", impl.StopStep, expectedStop}
 
-var stopPlan = impl.Plan{Procs: 2, Workers: 5, Timers: 12}
-
-// stopMem has a timer of each status, of StModifying one with a Place and one without, and two more that may be there; each has numbers of its own that stopping does not change. The worker 3 holds the one heap, nobody the other one.
-func stopMem() impl.Mem {
-	m := memOf(stopPlan, 100,
-		waiting(150, 0), turned(impl.StEarlier, 190, 95, 0), outside(impl.StNone, 20), turned(impl.StModifying, 130, 0, 1), turned(impl.StLater, 80, 170, 1),
-		turned(impl.StDeleted, 85, 0, 0), turned(impl.StRunning, 90, 0, 1), outside(impl.StRemoved, 30), outside(impl.StModifying, 40), waiting(60, 1))
-	for i := range m.Timers {
-		k := &m.Timers[i]
-		k.Period, k.Gen, k.Kind, k.Mail = 3+int64(i), 20+int64(i), int64(i)%2, 39*int64(i%3)
-	}
-	m.Procs[0].Lock = 3
-	return m
-}
-
 func stopOf(timer int64) impl.Call { return impl.Call{Code: impl.OpStop, A: timer} }
 
-// stopHands are fit in stopMem, each at a step that can be made, of each outcome; and one at rest.
+// stopHands are fit in variedMem, each at a step that can be made, of each outcome; and one at rest.
 func stopHands() []impl.Hand {
 	list := []impl.Hand{}
 	for _, id := range []int64{0, 1, 2, 3, 4, 5, 6, 10} {
@@ -80,107 +65,53 @@ func stopHands() []impl.Hand {
 // A whole OpStop, each step of it written out, by each worker, whoever holds the heap: of one that waits, of one that is earlier, of one that is later, and of one that is due already.
 func TestStopWhole(t *testing.T) {
 	for _, c := range []struct{ timer, when, gen, place, deleted int64 }{{0, 150, 20, 0, 2}, {1, 95, 21, 0, 2}, {4, 170, 24, 1, 1}, {9, 60, 29, 1, 1}} {
-		for w := range stopPlan.Workers {
-			m := stopMem()
-			h, _ := impl.Called(stopPlan, impl.NewHand(), stopOf(c.timer))
+		for w := range variedPlan.Workers {
+			m := variedMem()
+			h, _ := impl.Called(variedPlan, impl.NewHand(), stopOf(c.timer))
 			want := impl.Done{Mem: clonedMem(m), Hand: impl.Hand{At: impl.AtTurn, Call: stopOf(c.timer), Timer: c.timer},
 				Ev: impl.Ev{Kind: impl.EvCancel, Timer: c.timer, Gen: c.gen, When: c.when, At: 100}}
 			want.Mem.Timers[c.timer].Status = impl.StModifying
-			stopping.check(t, stopPlan, m, w, h, want)
+			stopping.check(t, variedPlan, m, w, h, want)
 
 			before := want
 			want.Mem = clonedMem(want.Mem)
 			want.Mem.Timers[c.timer].Status = impl.StDeleted
 			want.Mem.Procs[c.place].Deleted = c.deleted
 			want.Hand, want.Ev = impl.Hand{Timer: -1, Reply: impl.RpYes}, impl.Ev{}
-			stopping.check(t, stopPlan, before.Mem, w, before.Hand, want)
-			stopping.checkRefused(t, stopPlan, want.Mem, w, want.Hand) // and that was all
+			stopping.check(t, variedPlan, before.Mem, w, before.Hand, want)
+			stopping.checkRefused(t, variedPlan, want.Mem, w, want.Hand) // and that was all
 
 			before = want
 			want.Hand = impl.Hand{Timer: -1, Reply: impl.RpNo} // who is stopped is not stopped once more
-			stopping.check(t, stopPlan, before.Mem, w, h, want)
+			stopping.check(t, variedPlan, before.Mem, w, h, want)
 		}
 	}
 }
 
-// stopCases are all ways in which a timer may stand in a heap, or outside: when it was to ring if it can be stopped, and otherwise whether the worker stays, or what the reply is.
-var stopCases = []struct {
-	status, when, next int64
-	places             []int64
-	told               int64 // the When of the EvCancel; -1 where there is none
-	stays              bool
-}{
-	{impl.StNone, 45, 60, []int64{-1}, -1, false},
-	{impl.StNone, 0, 0, []int64{-1}, -1, false},
-	{impl.StWaiting, 45, 60, []int64{0, 1, 2}, 45, false},
-	{impl.StWaiting, 60, 45, []int64{0, 1, 2}, 60, false},
-	{impl.StWaiting, 0, timeLimit, []int64{0, 1, 2}, 0, false},
-	{impl.StWaiting, timeLimit, 0, []int64{0, 1, 2}, timeLimit, false},
-	{impl.StModifying, 45, 60, []int64{-1, 0, 1, 2}, -1, true},
-	{impl.StModifying, 60, 45, []int64{-1, 0, 1, 2}, -1, true},
-	{impl.StEarlier, 60, 45, []int64{0, 1, 2}, 45, false},
-	{impl.StEarlier, 1, 0, []int64{0, 1, 2}, 0, false},
-	{impl.StEarlier, timeLimit, timeLimit - 1, []int64{0, 1, 2}, timeLimit - 1, false},
-	{impl.StLater, 45, 60, []int64{0, 1, 2}, 60, false},
-	{impl.StLater, 45, 45, []int64{0, 1, 2}, 45, false},
-	{impl.StLater, 0, timeLimit, []int64{0, 1, 2}, timeLimit, false},
-	{impl.StLater, 0, 0, []int64{0, 1, 2}, 0, false},
-	{impl.StDeleted, 45, 60, []int64{0, 1, 2}, -1, false},
-	{impl.StDeleted, 60, 45, []int64{0, 1, 2}, -1, false},
-	{impl.StRunning, 45, 60, []int64{0, 1, 2}, -1, true},
-	{impl.StRunning, 60, 45, []int64{0, 1, 2}, -1, true},
-	{impl.StRemoved, 45, 60, []int64{-1}, -1, false},
-}
-
-// Each status, with each Place, Clock and Gen: what the hand holds stays beside its Timer and At, but of a reply nothing does.
+// What the hand holds stays beside its Timer and At, but of a reply nothing does.
 func TestLookToStopAtEachStatus(t *testing.T) {
-	for _, c := range stopCases {
-		for _, place := range c.places {
-			for _, clock := range []int64{0, 45, 50, timeLimit - 1} {
-				for _, gen := range []int64{0, 1, genLimit} {
-					k := impl.Timer{Status: c.status, When: c.when, Next: c.next, Period: 7, Place: place, Gen: gen, Kind: impl.KdFunc, Mail: 39}
-					m := memOf(memPlan, clock, waiting(40, 0), turned(impl.StDeleted, 10, 0, 2), k, turned(impl.StEarlier, 44, 43, 1))
-					for timer := int64(-1); timer < 4; timer++ {
-						h := impl.Hand{At: impl.AtLook, Call: stopOf(2), Timer: timer, When: 8, Had: true, Count: 2, Begin: 6, Reply: impl.RpFull, Out: 5}
-						want := impl.Done{Mem: clonedMem(m), Hand: h}
-						if c.told >= 0 {
-							want.Mem.Timers[2].Status = impl.StModifying
-							want.Hand.Timer, want.Hand.At = 2, impl.AtTurn
-							want.Ev = impl.Ev{Kind: 2, Timer: 2, Gen: gen, When: c.told, At: clock}
-						} else if !c.stays {
-							want.Hand = impl.Hand{Timer: -1, Reply: 3}
-						}
-						for w := range memPlan.Workers {
-							stopping.check(t, memPlan, m, w, h, want)
-						}
-					}
-				}
-			}
+	stopping.checkLookAtEachStatus(t, stopOf(2), func(c standing, want *impl.Done) {
+		if c.told >= 0 {
+			want.Mem.Timers[2].Status = impl.StModifying
+			want.Hand.Timer, want.Hand.At = 2, impl.AtTurn
+			want.Ev = impl.Ev{Kind: 2, Timer: 2, Gen: want.Mem.Timers[2].Gen, When: c.told, At: want.Mem.Clock}
+		} else if !c.stays {
+			want.Hand = impl.Hand{Timer: -1, Reply: 3}
 		}
-	}
+	})
 }
 
 // Who is changed, or rings, is looked at again and again, by as many as there are, till he stands in another way.
 func TestLookToStopStaysWhileSomebodyIsAtIt(t *testing.T) {
-	for _, k := range []impl.Timer{turned(impl.StModifying, 45, 60, 1), outside(impl.StModifying, 45), turned(impl.StRunning, 45, 60, 1)} {
-		for timer := int64(-1); timer < 2; timer++ {
-			m := memOf(memPlan, 50, waiting(40, 0), k)
-			h := impl.Hand{At: impl.AtLook, Call: stopOf(1), Timer: timer}
-			for w := range memPlan.Workers {
-				for lock := int64(-1); lock < memPlan.Workers; lock++ { // whoever holds the heap
-					m.Procs[1].Lock = lock
-					for range 3 {
-						stopping.check(t, memPlan, m, w, h, impl.Done{Mem: m, Hand: h})
-					}
-				}
-			}
-			again := memOf(memPlan, 50, waiting(40, 0), waiting(70, 1))
-			want := impl.Done{Mem: clonedMem(again), Hand: impl.Hand{At: impl.AtTurn, Call: h.Call, Timer: 1}, Ev: impl.Ev{Kind: 2, Timer: 1, Gen: 1, When: 70, At: 50}}
-			want.Mem.Timers[1].Status = impl.StModifying
-			stopping.check(t, memPlan, again, 2, h, want)
-			gone := memOf(memPlan, 50, waiting(40, 0), outside(impl.StNone, 45))
-			stopping.check(t, memPlan, gone, 2, h, impl.Done{Mem: gone, Hand: impl.Hand{Timer: -1, Reply: impl.RpNo}})
-		}
+	stopping.checkStays(t, stopOf(1))
+	for timer := int64(-1); timer < 2; timer++ {
+		h := impl.Hand{At: impl.AtLook, Call: stopOf(1), Timer: timer}
+		again := memOf(memPlan, 50, waiting(40, 0), waiting(70, 1))
+		want := impl.Done{Mem: clonedMem(again), Hand: impl.Hand{At: impl.AtTurn, Call: h.Call, Timer: 1}, Ev: impl.Ev{Kind: 2, Timer: 1, Gen: 1, When: 70, At: 50}}
+		want.Mem.Timers[1].Status = impl.StModifying
+		stopping.check(t, memPlan, again, 2, h, want)
+		gone := memOf(memPlan, 50, waiting(40, 0), outside(impl.StNone, 45))
+		stopping.check(t, memPlan, gone, 2, h, impl.Done{Mem: gone, Hand: impl.Hand{Timer: -1, Reply: impl.RpNo}})
 	}
 }
 
@@ -209,59 +140,21 @@ func TestLookToStopWhoIsThere(t *testing.T) {
 	}
 }
 
-// To look is of this chapter only where it was asked to stop; OpReset looks too, but not here.
-func TestLookOfAnotherCode(t *testing.T) {
-	m := stopMem()
-	calls := otherCalls(stopPlan, impl.OpStop)
-	for id := range stopPlan.Timers {
-		calls = append(calls, impl.Call{Code: impl.OpReset, A: id, B: 9}, impl.Call{Code: impl.OpRecv, A: id})
-	}
-	for _, c := range calls {
-		for timer := int64(-1); timer < 10; timer++ {
-			for w := range stopPlan.Workers {
-				h := impl.Hand{At: impl.AtLook, Call: c, Timer: timer}
-				checkFit(t, stopPlan, m, w, h, true)
-				stopping.checkRefused(t, stopPlan, m, w, h)
-			}
-		}
-	}
+func TestLookToStopOfAnotherCode(t *testing.T) {
+	stopping.checkLookOfAnotherCode(t, impl.OpStop)
 }
 
-// Who is turned is the Timer of the hand, whatever the Call; it is to be StModifying, and to have a Place.
+// Deleted is one more than the stopped ones beside it.
 func TestTurnAtEachStatus(t *testing.T) {
-	for _, c := range stopCases {
-		for _, place := range c.places {
-			k := marked(turned(c.status, c.when, c.next, place))
-			m := memOf(memPlan, 50, waiting(40, 0), k, waiting(10, 2), turned(impl.StDeleted, 30, 0, 1), turned(impl.StDeleted, 30, 0, 0), turned(impl.StDeleted, 9, 0, 1))
-			for _, call := range append(rightCalls(memPlan), stopOf(0), stopOf(2), stopOf(7)) {
-				for w := range memPlan.Workers {
-					h := impl.Hand{At: impl.AtTurn, Call: call, Timer: 1, When: 8, Had: true, Count: 2, Begin: 6, Reply: impl.RpFull, Out: 5}
-					if c.status != impl.StModifying || place == -1 {
-						checkFit(t, memPlan, m, w, h, true)
-						stopping.checkRefused(t, memPlan, m, w, h)
-						continue
-					}
-					want := impl.Done{Mem: clonedMem(m), Hand: impl.Hand{Timer: -1, Reply: 2}}
-					want.Mem.Timers[1].Status = impl.StDeleted
-					want.Mem.Procs[place].Deleted = []int64{2, 3, 1}[place] // one more than the stopped ones beside it
-					stopping.check(t, memPlan, m, w, h, want)
-				}
-			}
-		}
-	}
+	stopping.checkTurnAtEachStatus(t, impl.Hand{At: impl.AtTurn, When: 8, Had: true}, func(place int64, want *impl.Done) {
+		want.Mem.Timers[1].Status = impl.StDeleted
+		want.Mem.Procs[place].Deleted = []int64{2, 3, 1}[place]
+		want.Hand = impl.Hand{Timer: -1, Reply: 2}
+	})
 }
 
-// Without a Timer nobody is turned, though the Call names one that could be.
 func TestTurnOfNoTimer(t *testing.T) {
-	for _, m := range []impl.Mem{stopMem(), memOf(stopPlan, 0), memOf(stopPlan, 3, turned(impl.StModifying, 30, 0, 0))} {
-		for w := range stopPlan.Workers {
-			for _, c := range append(rightCalls(stopPlan), stopOf(0), stopOf(3)) {
-				h := impl.Hand{At: impl.AtTurn, Call: c, Timer: -1}
-				checkFit(t, stopPlan, m, w, h, true)
-				stopping.checkRefused(t, stopPlan, m, w, h)
-			}
-		}
-	}
+	stopping.checkTurnOfNoTimer(t, impl.AtTurn)
 }
 
 // Deleted is counted of the Place of the timer alone, from none up to as many as there may be, in each processor of each plan.
@@ -294,15 +187,15 @@ func TestTurnCountsInItsPlace(t *testing.T) {
 
 // Earliest stays as it was: it may be too early by then, but that is for who tidies the heap.
 func TestStopLeavesEarliestAndLocks(t *testing.T) {
-	for w := range stopPlan.Workers {
-		for lock := int64(-1); lock < stopPlan.Workers; lock++ {
+	for w := range variedPlan.Workers {
+		for lock := int64(-1); lock < variedPlan.Workers; lock++ {
 			for _, earliest := range []int64{0, 94, 95} {
-				m := stopMem()
+				m := variedMem()
 				m.Procs[0].Lock, m.Procs[1].Lock, m.Procs[0].Earliest = lock, w, earliest
 				m.Procs[1].Earliest = timeLimit
 				h := impl.Hand{At: impl.AtLook, Call: stopOf(1), Timer: -1}
 				for h.At != impl.AtRest {
-					d, is := impl.StopStep(stopPlan, m, w, h)
+					d, is := impl.StopStep(variedPlan, m, w, h)
 					if !is || d.Mem.Procs[0].Earliest != earliest || d.Mem.Procs[1].Earliest != timeLimit || d.Mem.Procs[0].Lock != lock || d.Mem.Procs[1].Lock != w || d.Mem.Clock != 100 {
 						t.Fatalf("at %d of %v there is %+v, %v", h.At, m, d, is)
 					}
@@ -313,62 +206,31 @@ func TestStopLeavesEarliestAndLocks(t *testing.T) {
 	}
 }
 
-// At each At that is not of this chapter there is no step, with whatever Call, though all is fit.
 func TestStopAtOtherAts(t *testing.T) {
-	m := stopMem()
-	for at := range int64(atLimit + 1) {
-		if at == impl.AtLook || at == impl.AtTurn {
-			continue
-		}
-		for _, c := range append(rightCalls(stopPlan), stopOf(0), stopOf(3), impl.Call{}) {
-			for timer := int64(-1); timer < 10; timer++ {
-				for w := range stopPlan.Workers {
-					h := impl.Hand{At: at, Call: c, Timer: timer, When: 8}
-					checkFit(t, stopPlan, m, w, h, at == impl.AtRest || c != impl.Call{})
-					stopping.checkRefused(t, stopPlan, m, w, h)
-				}
-			}
-		}
-	}
+	stopping.checkOtherAts(t, variedPlan, variedMem(), []int64{impl.AtLook, impl.AtTurn}, stopOf(0), stopOf(3))
 }
 
-// Each of the hands that the tests of what is not right begin with is fit, with each worker, and has its step.
 func TestStopOfEachWorker(t *testing.T) {
-	for _, h := range stopHands() {
-		for w := range stopPlan.Workers {
-			checkFit(t, stopPlan, stopMem(), w, h, true)
-			if _, is := impl.StopStep(stopPlan, stopMem(), w, h); is != (h.At != impl.AtRest) {
-				t.Errorf("StopStep of worker %d with %+v is %v", w, h, is)
-			}
-		}
-	}
+	stopping.checkEachWorker(t, variedPlan, variedMem(), stopHands())
 }
 
-// The hand's Timer is -1 or there, though to look for another one it would not matter.
 func TestStopTimerThatIsNotThere(t *testing.T) {
-	for _, h := range stopHands() {
-		for timer := int64(10); timer < stopPlan.Timers+2; timer++ {
-			h.Timer = timer
-			for w := range stopPlan.Workers {
-				stopping.checkUnfit(t, stopPlan, stopMem(), w, h)
-			}
-		}
-	}
+	stopping.checkTimerNotThere(t, variedPlan, variedMem(), stopHands())
 }
 
 func TestStopArgumentsNotRight(t *testing.T) {
-	stopping.checkUnfitArguments(t, stopPlan, stopMem(), stopHands())
+	stopping.checkUnfitArguments(t, variedPlan, variedMem(), stopHands())
 }
 
 // All that is of this chapter, and a bit of all else, of each timer in a memory with one of each status.
 func TestStopAsToldOfEachTimer(t *testing.T) {
-	m := stopMem()
-	for id := range stopPlan.Timers {
+	m := variedMem()
+	for id := range variedPlan.Timers {
 		for timer := int64(-1); timer <= int64(len(m.Timers)); timer++ {
-			for w := int64(-1); w <= stopPlan.Workers; w++ {
+			for w := int64(-1); w <= variedPlan.Workers; w++ {
 				for at := range int64(atLimit + 2) {
 					for _, c := range []impl.Call{stopOf(id), {Code: impl.OpReset, A: id, B: 5}, {Code: impl.OpRecv, A: id}, newCall} {
-						stopping.checkAnswers(t, stopPlan, m, w, impl.Hand{At: at, Call: c, Timer: timer, When: 70, Begin: 9})
+						stopping.checkAnswers(t, variedPlan, m, w, impl.Hand{At: at, Call: c, Timer: timer, When: 70, Begin: 9})
 					}
 				}
 			}
@@ -395,27 +257,7 @@ func anyStopHand(r *rand.Rand, p impl.Plan, m impl.Mem) impl.Hand {
 }
 
 func TestStopAsToldOfMixtures(t *testing.T) {
-	r := rand.New(rand.NewSource(10))
-	made, replies, refused := map[int64]int{}, map[int64]int{}, 0
-	for _, c := range tidyMems(t) {
-		for range 60 {
-			w, h := r.Int63n(c.p.Workers+2)-1, anyStopHand(r, c.p, c.m)
-			stopping.checkAnswers(t, c.p, c.m, w, h)
-			if d, is := expectedStop(c.p, c.m, w, h); is {
-				made[h.At]++
-				if d.Hand.At == impl.AtRest {
-					replies[d.Hand.Reply]++
-				}
-			} else {
-				refused++
-			}
-		}
-		for range 6 {
-			m := clonedMem(c.m)
-			disturb(r, &m)
-			stopping.checkAnswers(t, c.p, m, r.Int63n(c.p.Workers), anyStopHand(r, c.p, m))
-		}
-	}
+	made, replies, refused := stopping.checkMixtures(t, 10, anyStopHand)
 	for _, count := range []int{made[impl.AtLook], made[impl.AtTurn], replies[impl.RpYes], replies[impl.RpNo], replies[impl.RpNone], refused} {
 		if count < 500 {
 			t.Errorf("only so few: %v, %v, %d", made, replies, refused)
@@ -423,51 +265,35 @@ func TestStopAsToldOfMixtures(t *testing.T) {
 	}
 }
 
-// A worker that stops a timer, and what was told by him.
-type stopper struct {
-	worker int64
-	hand   impl.Hand
-	told   impl.Ev
-}
+// A stopper is a worker that stops a timer.
+type stopper struct{ caller }
 
 func newStopper(t *testing.T, p impl.Plan, w int64, id int64) stopper {
 	t.Helper()
-	h, code := impl.Called(p, impl.NewHand(), stopOf(id))
-	if code != impl.CdOk {
-		t.Fatalf("Called of %d tells %d", id, code)
-	}
-	return stopper{worker: w, hand: h}
+	return stopper{newCaller(t, p, w, stopOf(id))}
 }
 
-// step makes one step, and sees that it keeps the memory right, turns only the word of its timer, as that may pass, and tells it once.
+// step makes one step, and sees that it turns only the word of its timer, and tells it once.
 func (s *stopper) step(t *testing.T, p impl.Plan, m impl.Mem) impl.Mem {
 	t.Helper()
-	id, at := s.hand.Call.A, s.hand.At
-	d, is := impl.StopStep(p, m, s.worker, s.hand)
-	if !is || !impl.MemOk(p, d.Mem) || !impl.HandOk(p, d.Hand) {
-		t.Fatalf("StopStep(%v, %v, %d, %+v) is %+v, %v", p, m, s.worker, s.hand, d, is)
-	}
+	id, at, before := s.hand.Call.A, s.hand.At, s.hand
+	d := s.oneStep(t, stopping, p, m)
 	others := clonedMem(m)
 	if id < int64(len(m.Timers)) && m.Timers[id] != d.Mem.Timers[id] {
-		before, after := m.Timers[id], d.Mem.Timers[id]
-		if !impl.Passes(before.Status, after.Status) || d.Hand == s.hand {
-			t.Fatalf("at %d %v came to be %v", at, before, after)
+		if s.hand == before {
+			t.Fatalf("at %d %v came to be %v, but he stays", at, m.Timers[id], d.Mem.Timers[id])
 		}
-		others.Timers[id].Status = after.Status
-		if after.Status == impl.StDeleted {
-			others.Procs[before.Place].Deleted++
+		others.Timers[id].Status = d.Mem.Timers[id].Status
+		if others.Timers[id].Status == impl.StDeleted {
+			others.Procs[others.Timers[id].Place].Deleted++
 		}
 	}
 	if !sameMem(d.Mem, others) {
 		t.Fatalf("at %d of timer %d %v came to be %v", at, id, m, d.Mem)
 	}
-	if (d.Ev != impl.Ev{}) != (at == impl.AtLook && d.Hand.At == impl.AtTurn) || d.Ev != (impl.Ev{}) && s.told != (impl.Ev{}) {
+	if (d.Ev != impl.Ev{}) != (at == impl.AtLook && d.Hand.At == impl.AtTurn) || len(s.told) > 1 {
 		t.Fatalf("at %d there is told %+v", at, d.Ev)
 	}
-	if d.Ev != (impl.Ev{}) {
-		s.told = d.Ev
-	}
-	s.hand = d.Hand
 	return d.Mem
 }
 
@@ -510,7 +336,7 @@ func TestPromise10WhoIsStoppedDoesNotRing(t *testing.T) {
 				continue
 			}
 			stops++
-			if s.told != (impl.Ev{Kind: impl.EvCancel, Timer: int64(id), Gen: before.Gen, When: when, At: c.m.Clock}) {
+			if !slices.Equal(s.told, []impl.Ev{{Kind: impl.EvCancel, Timer: int64(id), Gen: before.Gen, When: when, At: c.m.Clock}}) {
 				t.Fatalf("%v is told as %+v", before, s.told)
 			}
 			rest := slices.DeleteFunc(impl.DueIn(c.p, c.m), func(k int64) bool { return k == int64(id) })
@@ -550,11 +376,11 @@ func TestPromise10CancelsWhatWasArmed(t *testing.T) {
 				if s.hand.At == impl.AtLook { // while it is made he stays
 					m = s.step(t, p, m)
 				}
-				if (s.told != impl.Ev{}) != (armed != impl.Ev{}) {
+				if (len(s.told) > 0) != (armed != impl.Ev{}) {
 					t.Fatalf("it was told %+v before %+v", s.told, armed)
 				}
 			}
-			if s.told != (impl.Ev{Kind: impl.EvCancel, Timer: armed.Timer, Gen: armed.Gen, When: armed.When, At: armed.At}) {
+			if !slices.Equal(s.told, []impl.Ev{{Kind: impl.EvCancel, Timer: armed.Timer, Gen: armed.Gen, When: armed.When, At: armed.At}}) {
 				t.Fatalf("armed is %+v, cancelled %+v", armed, s.told)
 			}
 			m = s.step(t, p, impl.Elapsed(p, m, 50)) // its time has come meanwhile
@@ -626,20 +452,15 @@ func TestPromise10ManyStopTheSame(t *testing.T) {
 
 // Promise 19: an answer is new memory, also where nothing was done.
 func TestPromise19StoppingIsNewMemory(t *testing.T) {
-	r := rand.New(rand.NewSource(119))
 	for _, h := range append(stopHands(), impl.Hand{At: impl.AtTake, Call: newCall, Timer: -1}) {
-		for w := range stopPlan.Workers {
-			stopping.checkNewMemory(t, stopPlan, stopMem(), w, h)
+		for w := range variedPlan.Workers {
+			stopping.checkNewMemory(t, variedPlan, variedMem(), w, h)
 		}
 	}
-	for _, c := range tidyMems(t) {
-		for range 12 {
-			stopping.checkNewMemory(t, c.p, c.m, r.Int63n(c.p.Workers), anyStopHand(r, c.p, c.m))
-		}
-	}
+	stopping.checkNewMemories(t, 119, anyStopHand)
 }
 
 // Promise 19: it answers at every argument, and does not panic.
 func TestPromise19StoppingAnswersEverywhere(t *testing.T) {
-	stopping.checkEverywhere(t, stopPlan, stopMem(), stopHands())
+	stopping.checkEverywhere(t, variedPlan, variedMem(), stopHands())
 }

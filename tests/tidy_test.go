@@ -923,16 +923,22 @@ func rungOut(t *testing.T, p impl.Plan, m impl.Mem, place int64) (impl.Mem, []in
 	}
 }
 
+// unheld is without those in heaps that are held by another one, for these stand in the way.
+func unheld(m impl.Mem) impl.Mem {
+	m = clonedMem(m)
+	for i := range m.Timers {
+		if k := &m.Timers[i]; k.Place >= 0 && (k.Status == impl.StModifying || k.Status == impl.StRunning) {
+			k.Status = impl.StWaiting
+		}
+	}
+	return m
+}
+
 // Promise 6: who tidies a heap up and then rings the top as long as it is due rings all that is due there, in order, once, and nothing else.
 func TestPromise6AllThatIsDueRingsInOrder(t *testing.T) {
 	rings := 0
 	for _, c := range tidyMems(t) {
-		m := c.m
-		for i := range m.Timers { // who is held by another one stands in the way
-			if k := m.Timers[i]; k.Place >= 0 && (k.Status == impl.StModifying || k.Status == impl.StRunning) {
-				m = edited(m, func(m *impl.Mem) { m.Timers[i].Status = impl.StWaiting })
-			}
-		}
+		m := unheld(c.m)
 		due, rung := impl.DueIn(c.p, m), []int64{}
 		for place := range c.p.Procs {
 			next, there := rungOut(t, c.p, m, place)
