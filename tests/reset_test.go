@@ -639,7 +639,7 @@ func TestPromise11BehindStoppingAndRinging(t *testing.T) {
 	}
 }
 
-// A ledger has, of each timer that was armed and not cancelled since, what was told of that, and the Gens told last.
+// A ledger has, of each timer that was armed, and neither was cancelled nor rang since, what was told of that, and the Gens told last.
 type ledger struct {
 	armed map[int64]impl.Ev
 	gens  map[int64]int64
@@ -657,12 +657,12 @@ func newLedger(m impl.Mem) ledger {
 	return l
 }
 
-// hear sees that what is armed was not, that what is cancelled was, and that both are told as it was.
+// hear sees that what is armed was not, that what is cancelled, or rings, was, that all are told as it was, and that none rings ahead of its time.
 func (l ledger) hear(t *testing.T, evs []impl.Ev) {
 	t.Helper()
 	for _, ev := range evs {
 		last, is := l.armed[ev.Timer]
-		if is != (ev.Kind == impl.EvCancel) || is && (ev.Gen != last.Gen || ev.When != last.When) || !is && ev.Gen != l.gens[ev.Timer]+1 {
+		if is == (ev.Kind == impl.EvArm) || is && (ev.Gen != last.Gen || ev.When != last.When) || !is && ev.Gen != l.gens[ev.Timer]+1 || ev.Kind == impl.EvRing && ev.When > ev.At {
 			t.Fatalf("%+v is told after %+v", ev, last)
 		}
 		if delete(l.armed, ev.Timer); ev.Kind == impl.EvArm {
@@ -705,23 +705,10 @@ func TestPromise11ManySetTheSameAnew(t *testing.T) {
 		p := impl.Plan{Procs: 1 + r.Int63n(procsLimit), Workers: 2 + r.Int63n(workersLimit-1), Timers: 4}
 		m := memOf(p, 50, waiting(60+r.Int63n(30), r.Int63n(p.Procs)), waiting(80, r.Int63n(p.Procs)), outside(impl.StNone, 30))
 		story := newLedger(m)
-		callers := make([]caller, p.Workers)
-		for i := range callers {
-			callers[i] = caller{worker: int64(i), hand: impl.NewHand()}
+		ask := func() impl.Call {
+			return []impl.Call{stopOf(r.Int63n(4)), resetOf(r.Int63n(4), r.Int63n(60)), resetOf(r.Int63n(3), r.Int63n(60))}[r.Intn(3)]
 		}
-		busy := func(c caller) bool { return c.hand.At != impl.AtRest }
-		for asked, turns := 0, 0; asked < 40 || slices.ContainsFunc(callers, busy); turns++ {
-			if turns == 20000 {
-				t.Fatalf("they do not come to rest: %v, %+v", m, callers)
-			}
-			c := &callers[r.Intn(len(callers))]
-			if !busy(*c) {
-				if asked == 40 {
-					continue
-				}
-				asked++
-				*c = newCaller(t, p, c.worker, []impl.Call{stopOf(r.Int63n(4)), resetOf(r.Int63n(4), r.Int63n(60)), resetOf(r.Int63n(3), r.Int63n(60))}[r.Intn(3)])
-			}
+		m = byTurns(t, r, p, m, 40, ask, func(c *caller, m impl.Mem) impl.Mem {
 			before := *c
 			m = turnBy(t, c, p, m)
 			if c.hand == before.hand {
@@ -729,10 +716,8 @@ func TestPromise11ManySetTheSameAnew(t *testing.T) {
 			}
 			story.hear(t, c.told[len(before.told):])
 			story.check(t, m)
-			if r.Intn(10) == 0 {
-				m = impl.Elapsed(p, m, r.Int63n(5))
-			}
-		}
+			return m
+		})
 		for id, ev := range story.armed {
 			checkDueAt(t, p, m, id, ev.When)
 		}

@@ -244,12 +244,17 @@ func (s stepper) checkOtherAts(t *testing.T, p impl.Plan, m impl.Mem, own []int6
 // checkEachWorker sees that each of these hands is fit, with each worker, and has its step, unless it rests.
 func (s stepper) checkEachWorker(t *testing.T, p impl.Plan, m impl.Mem, hands []impl.Hand) {
 	t.Helper()
+	for w := range p.Workers {
+		s.checkWorker(t, p, m, w, hands)
+	}
+}
+
+func (s stepper) checkWorker(t *testing.T, p impl.Plan, m impl.Mem, w int64, hands []impl.Hand) {
+	t.Helper()
 	for _, h := range hands {
-		for w := range p.Workers {
-			checkFit(t, p, m, w, h, true)
-			if _, is := s.step(p, m, w, h); is != (h.At != impl.AtRest) {
-				t.Errorf("%s of worker %d with %+v is %v", s.name, w, h, is)
-			}
+		checkFit(t, p, m, w, h, true)
+		if _, is := s.step(p, m, w, h); is != (h.At != impl.AtRest) {
+			t.Errorf("%s of worker %d with %+v is %v", s.name, w, h, is)
 		}
 	}
 }
@@ -444,6 +449,33 @@ func (c *caller) oneStep(t *testing.T, s stepper, p impl.Plan, m impl.Mem) impl.
 	}
 	c.hand = d.Hand
 	return d
+}
+
+// byTurns has all workers ask, and step, by turns in any order, till so many calls were asked and all rest; as long as they ask the clock goes on.
+func byTurns(t *testing.T, r *rand.Rand, p impl.Plan, m impl.Mem, most int, ask func() impl.Call, turn func(c *caller, m impl.Mem) impl.Mem) impl.Mem {
+	t.Helper()
+	callers := make([]caller, p.Workers)
+	for i := range callers {
+		callers[i] = caller{worker: int64(i), hand: impl.NewHand()}
+	}
+	busy := func(c caller) bool { return c.hand.At != impl.AtRest }
+	for asked, turns := 0, 0; asked < most || slices.ContainsFunc(callers, busy); turns++ {
+		if turns == 20000 {
+			t.Fatalf("they do not come to rest: %v, %+v", m, callers)
+		}
+		c := &callers[r.Intn(len(callers))]
+		if !busy(*c) {
+			if asked == most {
+				continue
+			}
+			asked++
+			*c = newCaller(t, p, c.worker, ask())
+		}
+		if m = turn(c, m); asked < most && r.Intn(10) == 0 {
+			m = impl.Elapsed(p, m, r.Int63n(5))
+		}
+	}
+	return m
 }
 
 // checkEverywhere asks it with each number at each edge, and lists of any length; the memory has a slot in each heap.
